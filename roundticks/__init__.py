@@ -1,0 +1,1 @@
+"""Roundticks: timetables of points that keep clocks of their own."""

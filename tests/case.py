@@ -1,0 +1,91 @@
+"""What the tests share: calls that are checked for [0.2] and [0.3], and values of all kinds."""
+
+import copy
+import unittest
+
+from roundticks.networks import Network
+
+POINTS = [("a", 0, 1), ("b", 1, 2), ("c", 0, 3)]
+RULES = [("a", "b", 2), ("b", "c", 1), ("c", "a", -6)]
+
+
+def sample():
+    """The network N of the examples."""
+    return Network(list(POINTS), list(RULES))
+
+
+def nested(depth, wrap, inner):
+    value = inner
+    for _ in range(depth):
+        value = wrap(value)
+    return value
+
+
+def anything():
+    """New values of all kinds that may be passed where an argument may be anything."""
+    return [
+        0, 1, -1, 60, 10 ** 40 - 1, 1 - 10 ** 40, True, False, None,
+        "", "a", "z9", "A", " ", "\n", "\t", "-", "0", "abcdefghijklm",
+        [], (), {}, [0], (0,), [None], [[]], ((),), {"a": 0}, {0: ["a"]},
+        ["a"], ("a",), ("a", 0), ("a", 0, 1), ["a", 0, 1], [("a", 0, 1)], ("a", "b", []),
+        nested(40, lambda value: [value], 0),
+        nested(40, lambda value: (value,), "a"),
+        nested(40, lambda value: {"a": value}, None),
+        Network([], []), sample(),
+    ]
+
+
+def shape(value):
+    """A value with the classes of all its parts, so that 1, True and lists and tuples are told apart."""
+    if isinstance(value, Network):
+        return ("network", shape(value.points()), shape(value.rules()))
+    if isinstance(value, (list, tuple)):
+        return (type(value), [shape(member) for member in value])
+    if isinstance(value, dict):
+        return (type(value), [(shape(key), shape(value[key])) for key in value])
+    return (type(value), value)
+
+
+def lists_in(value):
+    """All lists and dicts within a value."""
+    if isinstance(value, (list, tuple)):
+        found = [value] if isinstance(value, list) else []
+        for member in value:
+            found += lists_in(member)
+        return found
+    if isinstance(value, dict):
+        return [value] + lists_in(list(value.values()))[1:]
+    return []
+
+
+class Case(unittest.TestCase):
+    maxDiff = None
+
+    def told(self, function, *arguments):
+        """What a function returns, checked to be the same again, new, and to leave what is passed."""
+        before = shape(arguments)
+        result = function(*arguments)
+        self.assertEqual(shape(arguments), before)
+        again = function(*copy.deepcopy(arguments))
+        self.assertEqual(shape(result), shape(again))
+        again = function(*arguments)
+        self.assertEqual(shape(result), shape(again))
+        lists = lists_in(result) + lists_in(again)
+        self.assertEqual(len({id(one) for one in lists}), len(lists))
+        passed = {id(one) for one in lists_in(arguments)}
+        self.assertEqual([one for one in lists if id(one) in passed], [])
+        return result
+
+    def tells(self, expected, function, *arguments):
+        self.assertEqual(shape(self.told(function, *arguments)), shape(expected), arguments)
+
+    def refused(self, error, attributes, function, *arguments):
+        """Checks that a call raises just this error, with these attributes, each time, and changes nothing."""
+        before = shape(arguments)
+        for _ in range(2):
+            with self.assertRaises(error, msg=arguments) as caught:
+                function(*arguments)
+            self.assertIs(type(caught.exception), error)
+            for name, value in attributes.items():
+                self.assertEqual(shape(getattr(caught.exception, name)), shape(value), arguments)
+            self.assertEqual(shape(arguments), before)

@@ -1,0 +1,51 @@
+"""The interface: each name stands in its own file, with the parameters that the document lists."""
+
+import importlib
+import inspect
+import unittest
+
+FUNCTIONS = {
+    "words": {"is_word": 1, "is_integer": 1, "is_number": 1},
+    "networks": {"have_like_points": 2, "with_points": 2, "with_rules": 2, "without_point": 2, "without_rule": 2,
+                 "with_least": 3, "part_of": 2},
+    "lexemes": {"lexemes": 1},
+    "networktexts": {"network_text": 1, "read_network": 1},
+    "numbers": {"up": 2, "down": 2, "is_on": 2, "are_alike_clocks": 2},
+    "timetables": {"judge_timetable": 2, "later_of": 3, "earlier_of": 3, "shifted": 3},
+    "walks": {"led": 4, "judge_ring": 2},
+    "rising": {"forced": 2, "earliest": 2, "latest": 2, "find_ring": 1, "has_timetable": 1},
+}
+CLASSES = {
+    "networks": {"Network": {"__init__": 3, "points": 1, "rules": 1, "names": 1, "has_name": 2, "clock": 2, "index": 2,
+                             "period": 1, "__eq__": 2}},
+}
+
+
+class Interface(unittest.TestCase):
+    def check(self, function, many):
+        """The function takes so many arguments by position, and needs no others."""
+        inspect.signature(function).bind(*range(many))
+        with self.assertRaises(TypeError):
+            inspect.signature(function).bind(*range(many - 1))
+
+    def test_functions(self):
+        for file, functions in FUNCTIONS.items():
+            module = importlib.import_module("roundticks." + file)
+            for name, many in functions.items():
+                function = getattr(module, name)
+                self.assertTrue(inspect.isfunction(function), name)
+                self.assertEqual(function.__module__, module.__name__, name)
+                self.check(function, many)
+
+    def test_classes(self):
+        for file, classes in CLASSES.items():
+            module = importlib.import_module("roundticks." + file)
+            for name, methods in classes.items():
+                self.assertEqual(getattr(module, name).__module__, module.__name__, name)
+                for method, many in methods.items():
+                    self.assertIn(method, vars(getattr(module, name)), name)
+                    self.check(vars(getattr(module, name))[method], many)
+
+
+if __name__ == "__main__":
+    unittest.main()

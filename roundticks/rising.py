@@ -64,6 +64,17 @@ class Rising:
                         return self._last_ring()
         return None
 
+    def walk_to(self, point):
+        """The pair of the point with a floor and the walk from there that gave a point its number, or None."""
+        at = self._last[point]
+        if at is None:
+            return None
+        rules = []
+        while self._raises[at][2] is not None:
+            rules.append(self._raises[at][2])
+            at = self._raises[at][3]
+        return (self._names[self._raises[at][0]], tuple(rules[::-1]))
+
     def _last_ring(self):
         """The ring between the two last raises, back from the last one, with one point and one rest."""
         rules = []

@@ -3,7 +3,9 @@
 import copy
 import unittest
 
+from roundticks.leads import Lead
 from roundticks.networks import Network
+from roundticks.tables import Table
 
 POINTS = [("a", 0, 1), ("b", 1, 2), ("c", 0, 3)]
 RULES = [("a", "b", 2), ("b", "c", 1), ("c", "a", -6)]
@@ -12,6 +14,13 @@ RULES = [("a", "b", 2), ("b", "c", 1), ("c", "a", -6)]
 def sample():
     """The network N of the examples."""
     return Network(list(POINTS), list(RULES))
+
+
+def stay(clock, period=None):
+    """The lead that stays, of the step as period if none is told."""
+    first, step = clock
+    period = step if period is None else period
+    return Lead(clock, clock, period, [v for v in range(period) if (v - first) % step == 0])
 
 
 def nested(depth, wrap, inner):
@@ -31,7 +40,7 @@ def anything():
         nested(40, lambda value: [value], 0),
         nested(40, lambda value: (value,), "a"),
         nested(40, lambda value: {"a": value}, None),
-        Network([], []), sample(),
+        Network([], []), sample(), stay((0, 1)), Table([], 1, []), Table([("a", 0, 1)], 2, [("a", "a", stay((0, 1), 2))]),
     ]
 
 
@@ -39,6 +48,12 @@ def shape(value):
     """A value with the classes of all its parts, so that 1, True and lists and tuples are told apart."""
     if isinstance(value, Network):
         return ("network", shape(value.points()), shape(value.rules()))
+    if isinstance(value, Lead):
+        return ("lead", shape((value.start(), value.end(), value.period(), value.row())))
+    if isinstance(value, Table):
+        names = [door[0] for door in value.doors()]
+        leads = [value.lead(p, q) for p in names for q in names]
+        return ("table", shape(value.doors()), shape(value.period()), shape(leads))
     if isinstance(value, (list, tuple)):
         return (type(value), [shape(member) for member in value])
     if isinstance(value, dict):

@@ -141,3 +141,84 @@ def some_networks(seed, many, steps=(1, 2, 3, 4, 6), most=5):
         rules = [(chance.choice(names), chance.choice(names), chance.randint(-9, 4))
                  for _ in range(chance.randint(0, 2 * len(points)))]
         yield points, rules
+
+
+def is_right_paper(points, rules, floors, value):
+    """Whether this is a right cause paper (S3.4), of plain tuples."""
+    if type(value) is not tuple or [type(part) for part in value] != [tuple, tuple]:
+        return False
+    numbers, walks = value
+    names = [point[0] for point in points]
+    if len(numbers) != len(names) or len(walks) != len(names):
+        return False
+    for (name, first, step), floor, number, walk in zip(points, floors, numbers, walks):
+        if number is None:
+            if floor is not None or walk is not None:
+                return False
+            continue
+        if type(number) is not int or (number - first) % step != 0:
+            return False
+        if floor is not None and number < floor:
+            return False
+        if type(walk) is not tuple or len(walk) != 2 or type(walk[0]) is not str or walk[0] not in names:
+            return False
+        origin, steps = walk
+        if type(steps) is not tuple or floors[names.index(origin)] is None:
+            return False
+        at = origin
+        for k in steps:
+            if type(k) is not int or not 0 <= k < len(rules) or rules[k][0] != at:
+                return False
+            at = rules[k][1]
+        begun = up_of(clocks_of(points)[origin], floors[names.index(origin)])
+        if at != name or led_by(points, rules, begun, steps) != number:
+            return False
+    told = dict(zip(names, numbers))
+    for start, end, least in rules:
+        if told[start] is not None and (told[end] is None or told[end] < told[start] + least):
+            return False
+    return True
+
+
+def rests_of(clock, period):
+    """The numbers of a clock from 0 to period - 1."""
+    return [v for v in range(period) if (v - clock[0]) % clock[1] == 0]
+
+
+def value_at(start, period, row, v):
+    """The value of a lead for a number of its start."""
+    return row[rests_of(start, period).index(v % period)] + v // period * period
+
+
+def climbed(start, period, row, v):
+    """The greatest number that v comes to (S4.3), or None with the steps to v + period or more."""
+    at = v
+    steps = 0
+    while value_at(start, period, row, at) > at:
+        at = value_at(start, period, row, at)
+        steps += 1
+        if at >= v + period:
+            return None, steps
+    return at, steps
+
+
+def some_rows(seed, many, steps=(1, 2, 3, 4, 6)):
+    """Starts, ends, periods and rows of many leads, the same ones for each seed."""
+    chance = random.Random(seed)
+    for _ in range(many):
+        start = (chance.randint(-20, 20), chance.choice(steps))
+        end = (chance.randint(-20, 20), chance.choice(steps))
+        period = math.lcm(start[1], end[1]) * chance.choice([1, 1, 2, 5])
+        base = end[0] + end[1] * chance.randint(-9, 9)
+        values = range(base, base + period + 1, end[1])
+        yield start, end, period, sorted(chance.choice(values) for _ in range(period // start[1]))
+
+
+def lead_row(points, rules, p, q):
+    """The row of the lead from p to q by rising (S5.1), or None if there is none."""
+    names = [point[0] for point in points]
+    row = []
+    for v in rests_of(clocks_of(points)[p], period_of(points)):
+        numbers = risen(points, rules, [v if name == p else None for name in names])
+        row.append(numbers[names.index(q)])
+    return None if None in row else row

@@ -14,10 +14,17 @@ FUNCTIONS = {
     "timetables": {"judge_timetable": 2, "later_of": 3, "earlier_of": 3, "shifted": 3},
     "walks": {"led": 4, "judge_ring": 2},
     "rising": {"forced": 2, "earliest": 2, "latest": 2, "find_ring": 1, "has_timetable": 1},
+    "causes": {"cause_paper": 2, "judge_causes": 3},
+    "leading": {"rule_lead": 4, "staying_lead": 2, "later_lead": 2, "and_then": 2, "star_of": 1, "back_of": 1, "jumps": 1,
+                "with_period": 2},
+    "tables": {"are_alike_tables": 2},
+    "elimination": {"table_of": 2, "table_by": 3, "lead_from": 3, "possible_numbers": 2},
 }
 CLASSES = {
     "networks": {"Network": {"__init__": 3, "points": 1, "rules": 1, "names": 1, "has_name": 2, "clock": 2, "index": 2,
                              "period": 1, "__eq__": 2}},
+    "leads": {"Lead": {"__init__": 5, "start": 1, "end": 1, "period": 1, "row": 1, "at": 2, "__eq__": 2}},
+    "tables": {"Table": {"__init__": 4, "doors": 1, "period": 1, "lead": 3, "is_closed": 1, "__eq__": 2}},
 }
 
 

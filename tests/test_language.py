@@ -169,6 +169,13 @@ class Code(unittest.TestCase):
             self.assertNotIsInstance(node.value, (float, complex), place)
             self.assertIsNot(node.value, Ellipsis, place)
 
+    def test_no_generators_and_no_sorting_in_place(self):
+        for node, place in nodes_of(ast.GeneratorExp, ast.Yield, ast.YieldFrom, ast.Global, ast.Set, ast.SetComp):
+            self.fail(f"{ast.unparse(node)} in {place}")
+        for node, place in nodes_of(ast.Call):
+            if isinstance(node.func, ast.Attribute):
+                self.assertNotEqual(node.func.attr, "sort", place)
+
     def test_decorators(self):
         for node, place in nodes_of(ast.FunctionDef, ast.ClassDef):
             for decorator in node.decorator_list:

@@ -5,10 +5,15 @@ import unittest
 
 from roundticks.leads import Lead
 from roundticks.networks import Network
+from roundticks.programs import Program
 from roundticks.tables import Table
 
 POINTS = [("a", 0, 1), ("b", 1, 2), ("c", 0, 3)]
 RULES = [("a", "b", 2), ("b", "c", 1), ("c", "a", -6)]
+# The modules of the example of S6.5.
+LEG = ("leg", (("door", "p", 0, 2), ("door", "q", 0, 2), ("point", "h", 1, 3),
+               ("rule", "p", "h", 1), ("rule", "h", "q", 1), ("rule", "q", "p", -7)))
+TRIP = ("trip", (("door", "a", 0, 2), ("point", "b", 4, 2), ("chain", 2, "leg", "p", "q", "a", "b"), ("rule", "b", "a", -12)))
 
 
 def sample():
@@ -41,6 +46,7 @@ def anything():
         nested(40, lambda value: (value,), "a"),
         nested(40, lambda value: {"a": value}, None),
         Network([], []), sample(), stay((0, 1)), Table([], 1, []), Table([("a", 0, 1)], 2, [("a", "a", stay((0, 1), 2))]),
+        Program([]), Program([LEG, TRIP]),
     ]
 
 
@@ -54,6 +60,8 @@ def shape(value):
         names = [door[0] for door in value.doors()]
         leads = [value.lead(p, q) for p in names for q in names]
         return ("table", shape(value.doors()), shape(value.period()), shape(leads))
+    if isinstance(value, Program):
+        return ("program", shape(value.modules()))
     if isinstance(value, (list, tuple)):
         return (type(value), [shape(member) for member in value])
     if isinstance(value, dict):

@@ -19,11 +19,17 @@ FUNCTIONS = {
                 "with_period": 2},
     "tables": {"are_alike_tables": 2},
     "elimination": {"table_of": 2, "table_by": 3, "lead_from": 3, "possible_numbers": 2},
+    "completing": {"can_complete": 3, "completed": 3, "why_not": 3, "pinned": 3, "door_numbers_fit": 2},
+    "programs": {"with_module": 2, "without_module": 2},
+    "programtexts": {"program_text": 1, "read_program": 1},
+    "flat": {"flat": 2, "flat_size": 2},
 }
 CLASSES = {
     "networks": {"Network": {"__init__": 3, "points": 1, "rules": 1, "names": 1, "has_name": 2, "clock": 2, "index": 2,
                              "period": 1, "__eq__": 2}},
     "leads": {"Lead": {"__init__": 5, "start": 1, "end": 1, "period": 1, "row": 1, "at": 2, "__eq__": 2}},
+    "programs": {"Program": {"__init__": 2, "modules": 1, "names": 1, "module": 2, "doors": 2, "points": 2, "uses": 2,
+                             "used_by": 2, "__eq__": 2}},
     "tables": {"Table": {"__init__": 4, "doors": 1, "period": 1, "lead": 3, "is_closed": 1, "__eq__": 2}},
 }
 

@@ -83,6 +83,15 @@ class Web:
                 return False
         return True
 
+    def closed_table(self, doors):
+        """The table between doors, when all points have gone out; None if a lead to itself gains."""
+        if not self.let_hidden_out(doors):
+            return None
+        for name in doors:
+            if not self.let_out(name, True):
+                return None
+        return self.table(doors)
+
     def table(self, doors):
         """The table of the leads between doors."""
         leads = [(p, q, self.lead(p, q)) for p in doors for q in doors if q in self._rows[p]]
@@ -99,13 +108,7 @@ def web_of(network):
 
 def table_of(network, doors):
     """The table of a network between doors, or None if it has no timetable."""
-    web = web_of(network)
-    if not web.let_hidden_out(doors):
-        return None
-    for name in doors:
-        if not web.let_out(name, True):
-            return None
-    return web.table(doors)
+    return web_of(network).closed_table(doors)
 
 
 def table_by(network, doors, sequence):
@@ -117,9 +120,14 @@ def table_by(network, doors, sequence):
     return web.table(doors)
 
 
+def table_between(network, p, q):
+    """The table of a network between two points, which may be the same; None if it has no timetable."""
+    return table_of(network, [p] if p == q else [p, q])
+
+
 def lead_from(network, p, q):
     """The lead from a point to a point of a network, or None."""
-    table = table_of(network, [p] if p == q else [p, q])
+    table = table_between(network, p, q)
     if table is None:
         raise Gain(find_ring(network))
     return table.lead(p, q)

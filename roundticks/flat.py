@@ -97,7 +97,7 @@ def flat_by(program, name, flats):
 
 def needed(program, name):
     """The list of the names of a module and of all that it uses, itself or through others, in order."""
-    found = {name: True}
+    found = {program.module(name)[0]: True}
     for own in program.names()[::-1]:
         if own in found:
             for used in program.uses(own):

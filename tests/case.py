@@ -7,6 +7,7 @@ from roundticks.leads import Lead
 from roundticks.networks import Network
 from roundticks.programs import Program
 from roundticks.tables import Table
+from tests.oracle import clocks_of, period_of, rests_of, risen
 
 POINTS = [("a", 0, 1), ("b", 1, 2), ("c", 0, 3)]
 RULES = [("a", "b", 2), ("b", "c", 1), ("c", "a", -6)]
@@ -26,6 +27,22 @@ def stay(clock, period=None):
     first, step = clock
     period = step if period is None else period
     return Lead(clock, clock, period, [v for v in range(period) if (v - first) % step == 0])
+
+
+def risen_table(points, rules, doors):
+    """The table of a network between doors by rising (S5.1), or None if it has no timetable."""
+    names = [point[0] for point in points]
+    if risen(points, rules, [0] * len(points)) is None:
+        return None
+    clocks, period = clocks_of(points), period_of(points)
+    leads = []
+    for p in doors:
+        rows = [risen(points, rules, [v if name == p else None for name in names]) for v in rests_of(clocks[p], period)]
+        for q in doors:
+            row = [numbers[names.index(q)] for numbers in rows]
+            if None not in row:
+                leads.append((p, q, Lead(clocks[p], clocks[q], period, row)))
+    return Table([(name, *clocks[name]) for name in doors], period, leads)
 
 
 def nested(depth, wrap, inner):

@@ -23,6 +23,11 @@ FUNCTIONS = {
     "programs": {"with_module": 2, "without_module": 2},
     "programtexts": {"program_text": 1, "read_program": 1},
     "flat": {"flat": 2, "flat_size": 2},
+    "compiling": {"compiled": 2, "barred": 1},
+    "chaining": {"glued": 2, "chained": 2, "longest_chain": 1},
+    "tellingback": {"told_back": 1, "module_back": 2},
+    "exchange": {"can_exchange": 3, "surrounding": 3, "judge_surrounding": 4},
+    "following": {"follows": 2, "greatest_least": 3, "needless": 1, "kernel": 1},
 }
 CLASSES = {
     "networks": {"Network": {"__init__": 3, "points": 1, "rules": 1, "names": 1, "has_name": 2, "clock": 2, "index": 2,

@@ -105,10 +105,15 @@ def needed(program, name):
     return [own for own in program.names() if own in found]
 
 
-def flat(program, name):
-    """The flat network of a module."""
+def check_size(program, name):
+    """Refuses a module whose flat network has too many points."""
     if flat_size(program, name) > MOST_POINTS:
         raise TooGreat()
+
+
+def flat(program, name):
+    """The flat network of a module."""
+    check_size(program, name)
     # Modules that it does not use may be far too great to be flattened.
     flats = {}
     for own in needed(program, name):

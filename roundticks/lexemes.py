@@ -97,6 +97,18 @@ class Reader:
         self._at += 1
         return self._lexemes[self._at - 1][1]
 
+    def take_one_of(self, words):
+        """Goes behind the next lexeme, which must be one of some words, and returns it."""
+        for word in words:
+            if self.sees(word):
+                self._at += 1
+                return word
+        raise BadText(self._here())
+
+    def has_more(self):
+        """Whether there is one more lexeme."""
+        return self._at < len(self._lexemes)
+
     def take_name(self):
         """Goes behind a NAME and returns it."""
         return self._take_one("word")

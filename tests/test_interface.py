@@ -28,6 +28,7 @@ FUNCTIONS = {
     "tellingback": {"told_back": 1, "module_back": 2},
     "exchange": {"can_exchange": 3, "surrounding": 3, "judge_surrounding": 4},
     "following": {"follows": 2, "greatest_least": 3, "needless": 1, "kernel": 1},
+    "distances": {"distances": 3, "distances_from": 4, "slack": 2},
 }
 CLASSES = {
     "networks": {"Network": {"__init__": 3, "points": 1, "rules": 1, "names": 1, "has_name": 2, "clock": 2, "index": 2,
@@ -36,6 +37,14 @@ CLASSES = {
     "programs": {"Program": {"__init__": 2, "modules": 1, "names": 1, "module": 2, "doors": 2, "points": 2, "uses": 2,
                              "used_by": 2, "__eq__": 2}},
     "tables": {"Table": {"__init__": 4, "doors": 1, "period": 1, "lead": 3, "is_closed": 1, "__eq__": 2}},
+    "dispatching": {"Dispatcher": {"__init__": 2, "network": 1, "now": 1, "fixed": 1, "open_names": 1, "fix": 3, "wait": 2, "fix_word": 3,
+                                   "wait_word": 2, "window": 2, "latest_now": 1, "due": 1, "undo": 1, "acts": 1, "course": 1, "twin": 1,
+                                   "__eq__": 2}},
+    "store": {"Store": {"program": 1, "version": 1, "program_at": 2, "table": 2, "go_back": 2, "mark": 2, "marks": 1, "marked": 2,
+                        "changed_since": 2}},
+    "sessions": {"Session": {"__init__": 2, "store": 1, "base": 1, "program": 1, "changed": 1, "read": 1, "put": 2, "drop": 2, "module": 2,
+                             "table": 2, "commit": 1, "commit_word": 1, "fresh": 1}},
+    "console": {"Console": {"__init__": 2, "session": 1, "store": 1, "say": 2}},
 }
 
 
@@ -63,6 +72,10 @@ class Interface(unittest.TestCase):
                 for method, many in methods.items():
                     self.assertIn(method, vars(getattr(module, name)), name)
                     self.check(vars(getattr(module, name))[method], many)
+
+    def test_a_store_is_made_of_nothing(self):
+        store = importlib.import_module("roundticks.store").Store()
+        self.assertEqual(store.version(), 0)
 
 
 if __name__ == "__main__":

@@ -53,8 +53,8 @@ def later(one, other):
 
 
 def glued_links(one, other):
-    """The link of two glued ones, or None if there is none; either may be None, too."""
-    if one is None or other is None:
+    """The link of two glued ones, or None if there is none; the first one may be None, too."""
+    if one is None:
         return None
     here, out, back, middle = one
     star, _ = star_row(later(middle, other[0]))
